@@ -148,6 +148,30 @@ func TestCheckRefuses(t *testing.T) {
 	}
 }
 
+// AR1: of more arrays the first one is checked first, and none is left out.
+func TestCheckAllTellsTheFirst(t *testing.T) {
+	right := rightArrays()
+	if err := CheckAll(right[0], right[1:]...); err != nil {
+		t.Errorf("CheckAll of right arrays: got %v", err)
+	}
+	for _, w := range wrongArrays() {
+		for _, other := range wrongArrays() {
+			for k, err := range []error{
+				CheckAll(w.a),
+				CheckAll(w.a, right...),
+				CheckAll(w.a, other.a),
+				CheckAll(right[0], w.a, right[1]),
+				CheckAll(right[0], right[1], w.a),
+				CheckAll(right[0], right[1], w.a, other.a),
+			} {
+				if plain.Told(err) != w.want {
+					t.Errorf("call %d: got %v, want %v", k, err, w.want)
+				}
+			}
+		}
+	}
+}
+
 // AR1: characters are just those that can be written as UTF-8.
 func TestCheckKnowsCharacters(t *testing.T) {
 	for c := -300; c <= utf8.MaxRune+300; c++ {
