@@ -72,7 +72,7 @@ func Axes(s []int, p []int) ([]int, error) {
 	if len(p) != len(s) {
 		return nil, api.ErrLength
 	}
-	if !isOrder(p) {
+	if !IsOrder(p) {
 		return nil, api.ErrIndex
 	}
 	out := make([]int, len(s))
@@ -80,6 +80,18 @@ func Axes(s []int, p []int) ([]int, error) {
 		out[p[k]] = length
 	}
 	return out, nil
+}
+
+// IsOrder tells if p is each of the numbers from 0 to below its length once.
+func IsOrder(p []int) bool {
+	seen := make([]bool, len(p))
+	for _, k := range p {
+		if k < 0 || k >= len(p) || seen[k] {
+			return false
+		}
+		seen[k] = true
+	}
+	return true
 }
 
 // fromLast goes over the axes with their lengths, from the last one on, as
@@ -103,16 +115,4 @@ func product(s []int) int {
 		count = min(count*length, api.MaxCells+1)
 	}
 	return count
-}
-
-// isOrder tells if p is each of the numbers from 0 to below its length once.
-func isOrder(p []int) bool {
-	seen := make([]bool, len(p))
-	for _, k := range p {
-		if k < 0 || k >= len(p) || seen[k] {
-			return false
-		}
-		seen[k] = true
-	}
-	return true
 }

@@ -302,6 +302,28 @@ func TestAxesRefuses(t *testing.T) {
 	}
 }
 
+// SH3, PE1: an order has each number from 0 to below its length once.
+func TestIsOrderTells(t *testing.T) {
+	for n := range 6 {
+		want := make([]int, n)
+		for i := range want {
+			want[i] = i
+		}
+		lists(n, -1, n, func(p []int) {
+			sorted := slices.Clone(p)
+			slices.Sort(sorted)
+			if got := IsOrder(p); got != slices.Equal(sorted, want) {
+				t.Errorf("IsOrder(%v): got %v", p, got)
+			}
+		})
+	}
+	for _, p := range [][]int{{math.MinInt}, {math.MaxInt}, {0, 1 << 32}, {0, math.MinInt + 1}, make([]int, 10000)} {
+		if IsOrder(p) {
+			t.Errorf("IsOrder of %d numbers, the last one %d: got true", len(p), p[len(p)-1])
+		}
+	}
+}
+
 // P2, P4: what is handed in stays as it is, behind its length too, and what
 // comes out is fresh memory.
 func TestListsAreNeitherWrittenNorShared(t *testing.T) {
@@ -309,6 +331,7 @@ func TestListsAreNeitherWrittenNorShared(t *testing.T) {
 	s, p := sBack[:3], pBack[:3]
 	Count(s)
 	Place(s, p)
+	IsOrder(p)
 	for _, tell := range []func() ([]int, error){
 		func() ([]int, error) { return At(s, 17) },
 		func() ([]int, error) { return Axes(s, p) },
