@@ -379,6 +379,33 @@ func TestTwoRefusesCells(t *testing.T) {
 	}
 }
 
+// EA2: two cells by Pairing are as Two of arrays without axes tells them.
+func TestPairingIsTwoOfTwoCells(t *testing.T) {
+	kinds := []bool{false, true}
+	for _, f := range sixteen() {
+		for _, leftChar := range kinds {
+			for _, rightChar := range kinds {
+				by, pairErr := Pairing(f, leftChar, rightChar)
+				for _, p := range [][2]int{{0, 0}, {0, 1}, {97, 97}, {98, 3}} {
+					want, wantErr := Two(f,
+						api.Array{Char: leftChar, Data: p[:1]}, api.Array{Char: rightChar, Data: p[1:]})
+					if by == nil {
+						wantError(t, want, pairErr, plain.Told(wantErr))
+						continue
+					}
+					got, err := by(p[0], p[1])
+					if plain.Told(err) != plain.Told(wantErr) {
+						t.Errorf("%v of %v: got %v, want %v", f, p, err, wantErr)
+					}
+					if err == nil {
+						wantArray(t, want, pairErr, nums(nil, got))
+					}
+				}
+			}
+		}
+	}
+}
+
 // spoil writes over all memory that an array hands out.
 func spoil(a api.Array) {
 	for _, list := range [][]int{a.Shape[:cap(a.Shape)], a.Data[:cap(a.Data)]} {

@@ -278,6 +278,22 @@ func TestReduceFoldsALine(t *testing.T) {
 	}
 }
 
+// FO1: numbers fold to the same whether they stand in an array or not.
+func TestCellsFoldAsALineDoes(t *testing.T) {
+	for _, of := range fillings() {
+		for _, n := range []int{0, 1, 2, 3, 8} {
+			a := filled([]int{n}, of)
+			for _, f := range sixteen() {
+				want, wantErr := foldsTo(f, a.Data)
+				got, err := Cells(f, a.Data)
+				if got != want || plain.Told(err) != plain.Told(wantErr) {
+					t.Errorf("%v of %v: got %v, %v, want %v, %v", f, a.Data, got, err, want, wantErr)
+				}
+			}
+		}
+	}
+}
+
 // FO1: that axis is gone, and at each place stands what folds along it.
 func TestReduceTells(t *testing.T) {
 	six := nums([]int{2, 3}, 1, 2, 3, 40, 50, 60)
