@@ -369,6 +369,27 @@ func TestReshapeRefuses(t *testing.T) {
 	}
 }
 
+// P2: a copy is the same array, and shares no memory with it.
+func TestCopy(t *testing.T) {
+	for _, a := range rightArrays() {
+		kept := api.Array{Char: a.Char, Shape: slices.Clone(a.Shape), Data: slices.Clone(a.Data)}
+		got := Copy(a)
+		wantArray(t, got, nil, kept)
+		for _, list := range [][]int{got.Shape, got.Data} {
+			for i := range list {
+				list[i] = -77
+			}
+		}
+		wantArray(t, a, nil, kept)
+	}
+	backing := []int{1, 2, 3}
+	got := Copy(nums(backing[:0], backing[:0]...))
+	_, _ = append(got.Shape, 8), append(got.Data, 9)
+	if !slices.Equal(backing, []int{1, 2, 3}) {
+		t.Errorf("Copy shares what lies behind empty lists: got %v", backing)
+	}
+}
+
 // AR4: the numbers from 0 on.
 func TestIotaTells(t *testing.T) {
 	for _, n := range []int{0, 1, 2, 3, 100, api.MaxCells - 1, api.MaxCells} {

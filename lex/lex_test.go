@@ -602,6 +602,23 @@ func TestSpellFirstWrong(t *testing.T) {
 	wantNoLine(t, api.ErrSyntax, api.Token{Kind: api.Name, Text: "averylongname", Fn: 1})
 }
 
+// LX3: a word is one that can be spelled alone.
+func TestIsWord(t *testing.T) {
+	longest := strings.Repeat("x", api.MaxLine-2)
+	right := []api.Token{number(7, math.MinInt), chars(0, ""), chars(1, longest), name(2, "twelve_bytes"), glyph(3, api.Slope), sign(4, api.Del)}
+	for _, word := range right {
+		if !IsWord(word) {
+			t.Errorf("IsWord(%v): got false", word)
+		}
+	}
+	wrong := []api.Token{{}, sign(0, api.Del+1), {Kind: api.Number, Text: "1"}, chars(0, "\xff"), chars(0, longest+"x"), name(0, ""), name(0, "1a"), name(0, "averylongname"), glyph(0, api.Slope+1)}
+	for _, word := range wrong {
+		if IsWord(word) {
+			t.Errorf("IsWord(%v): got true", word)
+		}
+	}
+}
+
 // LX2, LX3: what is spelled is read, and what is read can be spelled.
 func TestSpellIsRead(t *testing.T) {
 	var words []api.Token

@@ -16,7 +16,7 @@ func built(t []api.Node) (part, error) {
 	line := b.line()
 	// What the builder passed over, fields that say nothing and nodes behind the
 	// tree, is in the list alone.
-	if b.wrong || !slices.EqualFunc(line.nodes(), t, isSame) {
+	if b.wrong || !slices.EqualFunc(line.whole().nodes(), t, isSame) {
 		return nil, api.ErrSyntax
 	}
 	return line, nil
@@ -34,7 +34,7 @@ type builder struct {
 func (b *builder) line() part {
 	if len(b.nodes) > 0 && b.nodes[0].Op == api.IsSet {
 		text := b.next().Text
-		b.need(isWord(name(text)))
+		b.need(lex.IsWord(name(text)))
 		return set{text, b.expression()}
 	}
 	return b.expression()
@@ -48,10 +48,10 @@ func (b *builder) expression() part {
 		b.need(len(own.Nums) > 0)
 		return numbers(own.Nums)
 	case api.IsText:
-		b.need(isWord(chars(own.Text)))
+		b.need(lex.IsWord(chars(own.Text)))
 		return text(own.Text)
 	case api.IsVar:
-		b.need(isWord(name(own.Text)))
+		b.need(lex.IsWord(name(own.Text)))
 		return variable(own.Text)
 	case api.IsAlpha:
 		b.need(b.depth > 0)
@@ -139,15 +139,9 @@ func isSame(a, b api.Node) bool {
 // areWords tells if all words are right.
 func areWords(words []api.Token) bool {
 	for _, word := range words {
-		if !isWord(word) {
+		if !lex.IsWord(word) {
 			return false
 		}
 	}
 	return true
-}
-
-// isWord tells if a word is one that Parse takes.
-func isWord(word api.Token) bool {
-	_, err := lex.Spell([]api.Token{word})
-	return err == nil
 }

@@ -6,10 +6,36 @@ import (
 	"ravelin/api"
 )
 
-// part is a part of a tree, or all of it. Its nodes are its own one, and behind it
-// those of the parts that it has.
+// Part is a part of a tree, or all of it: its node, and the parts that it has, in
+// the order in which they are written.
+type Part struct {
+	api.Node
+	Given []Part // those with which something is done: all but Body
+	Body  []Part // of Dfn each condition and the value behind it, and the last expression
+}
+
+// nodes are those of a part: its own one, and behind it those of its parts.
+func (p Part) nodes() []api.Node {
+	nodes := []api.Node{p.Node}
+	for _, q := range p.written() {
+		nodes = append(nodes, q.nodes()...)
+	}
+	return nodes
+}
+
+// written are all parts that a part has: a function is written ahead of its last
+// one.
+func (p Part) written() []Part {
+	if len(p.Body) == 0 {
+		return p.Given
+	}
+	last := len(p.Given) - 1
+	return slices.Concat(p.Given[:last], p.Body, p.Given[last:])
+}
+
+// part is what a Part says.
 type part interface {
-	nodes() []api.Node
+	whole() Part
 }
 
 // The parts that there are.
@@ -37,62 +63,62 @@ type (
 	}
 )
 
-// function is what acts in a part. Of Dfn it has a body: each condition and the
-// value behind it, and the last expression.
+// function is what acts in a part. Of Dfn it has a body.
 type function struct {
 	act  api.Act
 	body []part
 }
 
-func (p numbers) nodes() []api.Node {
-	return list(api.Node{Op: api.IsNums, Nums: p})
+func (p numbers) whole() Part {
+	return Part{Node: api.Node{Op: api.IsNums, Nums: p}}
 }
 
-func (p text) nodes() []api.Node {
-	return list(api.Node{Op: api.IsText, Text: string(p)})
+func (p text) whole() Part {
+	return Part{Node: api.Node{Op: api.IsText, Text: string(p)}}
 }
 
-func (p variable) nodes() []api.Node {
-	return list(api.Node{Op: api.IsVar, Text: string(p)})
+func (p variable) whole() Part {
+	return Part{Node: api.Node{Op: api.IsVar, Text: string(p)}}
 }
 
-func (alpha) nodes() []api.Node {
-	return list(api.Node{Op: api.IsAlpha})
+func (alpha) whole() Part {
+	return Part{Node: api.Node{Op: api.IsAlpha}}
 }
 
-func (omega) nodes() []api.Node {
-	return list(api.Node{Op: api.IsOmega})
+func (omega) whole() Part {
+	return Part{Node: api.Node{Op: api.IsOmega}}
 }
 
-func (p one) nodes() []api.Node {
-	return list(p.acting(api.IsOne), slices.Concat(p.body, []part{p.right})...)
+func (p one) whole() Part {
+	return p.acting(api.IsOne, p.right)
 }
 
-func (p two) nodes() []api.Node {
-	return list(p.acting(api.IsTwo), slices.Concat([]part{p.left}, p.body, []part{p.right})...)
+func (p two) whole() Part {
+	return p.acting(api.IsTwo, p.left, p.right)
 }
 
-func (p pick) nodes() []api.Node {
+func (p pick) whole() Part {
 	own := api.Node{Op: api.IsPick, N: len(p.indices)}
-	return list(own, slices.Concat([]part{p.term}, p.indices)...)
+	return Part{Node: own, Given: slices.Concat(wholes(p.term), wholes(p.indices...))}
 }
 
-func (p set) nodes() []api.Node {
-	return list(api.Node{Op: api.IsSet, Text: p.name}, p.right)
+func (p set) whole() Part {
+	return Part{Node: api.Node{Op: api.IsSet, Text: p.name}, Given: wholes(p.right)}
 }
 
-// list is a node with those of its parts behind it.
-func list(own api.Node, parts ...part) []api.Node {
-	nodes := []api.Node{own}
+// acting is a part in which the function acts on others.
+func (f function) acting(op int, given ...part) Part {
+	own := api.Node{Op: op, Act: f.act, N: len(f.body) / 2}
+	return Part{Node: own, Given: wholes(given...), Body: wholes(f.body...)}
+}
+
+// wholes are the Parts that say what these do.
+func wholes(parts ...part) []Part {
+	var all []Part
 	for _, p := range parts {
-		nodes = append(nodes, p.nodes()...)
+		all = append(all, p.whole())
 	}
-	return nodes
-}
-
-// acting is the node of a part in which the function acts.
-func (f function) acting(op int) api.Node {
-	return api.Node{Op: op, Act: f.act, N: len(f.body) / 2}
+	return all
 }
 
 // signs are the words of the function; of Dfn the one ahead of its body; none of

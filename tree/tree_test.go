@@ -1139,6 +1139,43 @@ func TestMade(t *testing.T) {
 	}
 }
 
+// whole is a part of a tree, written short.
+func whole(own api.Node, given ...tree.Part) tree.Part { return tree.Part{Node: own, Given: given} }
+
+// TR2, TR4: the parts of a tree, those of a function that is written out apart from
+// those that it is given.
+func TestWhole(t *testing.T) {
+	called := whole(dfn(api.IsTwo, 1), whole(named("c")), whole(text("d")))
+	called.Body = []tree.Part{whole(alpha()), whole(one(self()), whole(nums(2))), whole(omega())}
+	alone := whole(dfn(api.IsOne, 0), whole(named("e")))
+	alone.Body = []tree.Part{whole(pick(2), whole(omega()), whole(nums(1)), whole(nums(3, 4)))}
+	lines := map[string]tree.Part{
+		"1 2":                 whole(nums(1, 2)),
+		"a←-b":                whole(set("a"), whole(one(fn(api.Sub)), whole(named("b")))),
+		"a-b":                 whole(two(fn(api.Sub)), whole(named("a")), whole(named("b"))),
+		"a[1;b]":              whole(pick(2), whole(named("a")), whole(nums(1)), whole(named("b"))),
+		"c{⍺:∇2⋄⍵}'d'":        called,
+		"{⍵[1;3 4]}e":         alone,
+		"x←{⍵[1;3 4]}e":       whole(set("x"), alone),
+		"(c{⍺:∇2⋄⍵}'d')[0]+1": whole(two(fn(api.Add)), whole(pick(1), called, whole(nums(0))), whole(nums(1))),
+	}
+	for line, want := range lines {
+		nodes, _, err := tree.Parse(read(t, line))
+		if err != nil {
+			t.Fatalf("Parse(%q): got %v", line, err)
+		}
+		if got, err := tree.Whole(nodes); err != nil || !reflect.DeepEqual(got, want) {
+			t.Errorf("Whole(%q): got %v, %v, want %v", line, got, err, want)
+		}
+	}
+	for _, wrong := range [][]api.Node{nil, {omega()}, {nums()}, {nums(1), nums(1)}, make([]api.Node, api.MaxNodes+1)} {
+		got, err := tree.Whole(wrong)
+		if want := tree.Check(wrong); !reflect.DeepEqual(got, tree.Part{}) || plain.Told(err) != plain.Told(want) {
+			t.Errorf("Whole(%v): got %v, %v, want nothing, %v", wrong, got, err, want)
+		}
+	}
+}
+
 // P2, P4: no list that is handed in is written into or kept, nor what lies behind
 // its length; what comes out is fresh, and no two lists share any.
 func TestFresh(t *testing.T) {
